@@ -1,0 +1,1 @@
+"""Butfewrows: machines alike but for few rows."""
