@@ -1,7 +1,7 @@
 """Machines, and the rows that they let by."""
 
 from butfewrows.checks import is_below
-from butfewrows.errors import BadGood, BadRow, BadSteps
+from butfewrows.errors import BadGood, BadRow, BadStand, BadSteps
 
 MOST_STANDS = 8
 MOST_LETTERS = 3
@@ -61,6 +61,12 @@ def check_good(good, stands):
 def letters_of(machine):
     """The number of letters of a machine."""
     return len(machine.steps[0])
+
+
+def check_stand(machine, stand):
+    """Raise BadStand for any value that is no stand of a machine."""
+    if not is_below(stand, len(machine)):
+        raise BadStand("no stand of the machine")
 
 
 def check_row(machine, row):

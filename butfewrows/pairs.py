@@ -1,6 +1,7 @@
 """Pairs of stands, one of each of two machines, and the rows that tell them apart.
 
 Moves are a dict with a list for each pair: its letters, ascending, each with the pair to which it leads.
+What is done with moves here takes no account of their being pairs: single stands have moves as well.
 """
 
 from butfewrows.errors import NotComparable
@@ -24,11 +25,21 @@ class Gap:
         self.ends = {pair: True for pair in ends if pair in self.moves}
 
 
-def compared(one, other):
-    """The gap between two machines; NotComparable if they have not as many letters."""
+def check_comparable(one, other):
+    """Raise NotComparable for machines that have not as many letters."""
     if letters_of(one) != letters_of(other):
         raise NotComparable("the machines have not as many letters")
+
+
+def compared(one, other):
+    """The gap between two machines; NotComparable if they have not as many letters."""
+    check_comparable(one, other)
     return Gap(one, other, (0, 0))
+
+
+def moves_of(machine):
+    """The moves of all stands of a machine."""
+    return {stand: list(enumerate(leads)) for stand, leads in enumerate(machine.steps)}
 
 
 def all_moves(one, other):
@@ -52,15 +63,17 @@ def only(moves, pairs):
 
 
 def reached(moves, starts):
-    """A dict of the pairs to which rows lead from any of the starts, the starts too."""
+    """A dict of the pairs to which rows lead from any of the starts, as they are come to, the starts first."""
     found = {pair: True for pair in starts}
-    waiting = list(starts)
-    while waiting:
-        pair = waiting.pop()
+    queue = list(starts)
+    at = 0
+    while at < len(queue):
+        pair = queue[at]
         for _, goal in moves[pair]:
             if goal not in found:
                 found[goal] = True
-                waiting.append(goal)
+                queue.append(goal)
+        at += 1
     return found
 
 

@@ -30,6 +30,37 @@ def plainly_unlike(one, other, most):
     return [row for row in all_rows(len(one.steps[0]), most) if plainly_differ(one, other, row)]
 
 
+def plain_count(one, other, start=(0, 0)):
+    """The number of rows at which two machines differ that begin in these stands; None for endlessly many."""
+    turn = len(one) * len(other)
+    counts, found = {start: 1}, []
+    for _ in range(2 * turn):
+        found.append(sum(many for (first, second), many in counts.items()
+                         if (first in one.good) != (second in other.good)))
+        counts = plainly_further(counts, lambda pair: list(zip(one.steps[pair[0]], other.steps[pair[1]])))
+    # A row as long as there are pairs of stands comes to one of them twice: so there are endlessly many such rows,
+    # and one of them is less than twice as long.
+    return None if any(found[turn:]) else sum(found)
+
+
+def plain_count_to(machine, stand):
+    """The number of rows by which a machine comes to a stand; None for endlessly many."""
+    counts, found = {0: 1}, []
+    for _ in range(2 * len(machine)):
+        found.append(counts.get(stand, 0))
+        counts = plainly_further(counts, lambda there: machine.steps[there])
+    return None if any(found[len(machine):]) else sum(found)
+
+
+def plainly_further(counts, goals):
+    """How many rows come to each place by one letter more."""
+    then = {}
+    for place, many in counts.items():
+        for goal in goals(place):
+            then[goal] = then.get(goal, 0) + many
+    return then
+
+
 def every_machine(stands, letters):
     """All machines of so many stands and letters."""
     leads = list(product(range(stands), repeat=letters))

@@ -2,6 +2,7 @@
 
 import ast
 import builtins
+import re
 import unittest
 from pathlib import Path
 
@@ -12,6 +13,9 @@ LIBRARY = {"heapq", "math", "itertools", "collections"}
 BUILTINS = set("""len range enumerate zip min max sum abs sorted reversed int str bool list tuple dict set isinstance
     ord repr any all divmod pow iter next map super property staticmethod classmethod Exception ValueError TypeError
     KeyError IndexError LookupError ZeroDivisionError NotImplementedError NotImplemented StopIteration""".split())
+BARRED = set("""register mro elements open input law version_info with_traceback add_note typing typing_extensions enum
+    Enum IntEnum StrEnum Flag IntFlag Generic Protocol ABC ABCMeta namedtuple NamedTuple TypedDict TYPE_CHECKING
+    abstractmethod eval exec exit globals locals vars dir id help compile type""".split())
 STATEMENTS_AT_TOP = (ast.ImportFrom, ast.FunctionDef, ast.ClassDef, ast.Assign)
 
 
@@ -74,6 +78,39 @@ class LanguageTests(unittest.TestCase):
                     self.assertNotIn(node.id, bound)
                 if isinstance(node, ast.arg):
                     self.assertNotIn(node.arg, bound)
+
+    def test_no_two_files_import_from_each_other(self):
+        needs = {path.stem: {node.module.split(".")[1] for node in tree.body if isinstance(node, ast.ImportFrom)
+                             and node.module.startswith("butfewrows.")} for path, tree in zip(FILES, TREES)}
+        while needs:
+            free = [name for name in needs if not needs[name] & set(needs)]
+            self.assertTrue(free, sorted(needs))
+            for name in free:
+                del needs[name]
+
+    def test_names_are_imported_from_the_file_that_defines_them(self):
+        defined = {path.stem: {node.name for node in tree.body if isinstance(node, (ast.FunctionDef, ast.ClassDef))}
+                   | {node.targets[0].id for node in tree.body if isinstance(node, ast.Assign)}
+                   for path, tree in zip(FILES, TREES)}
+        for tree in TREES:
+            for node in tree.body:
+                if isinstance(node, ast.ImportFrom) and node.module.startswith("butfewrows."):
+                    for name in node.names:
+                        self.assertIn(name.name, defined[node.module.split(".")[1]])
+
+    def test_no_barred_words_and_signs(self):
+        for path, tree in zip(FILES, TREES):
+            self.assertFalse(BARRED & set(re.findall("[A-Za-z_]+", ast.unparse(tree))), path.name)
+            for node in ast.walk(tree):
+                if isinstance(node, ast.Constant) and isinstance(node.value, str):
+                    self.assertNotIn("%", node.value)
+
+    def test_stars_in_calls_stand_before_names(self):
+        for tree in TREES:
+            for node in ast.walk(tree):
+                for passed in node.args if isinstance(node, ast.Call) else ():
+                    if isinstance(passed, ast.Starred):
+                        self.assertIsInstance(passed.value, (ast.Name, ast.Attribute))
 
     def test_sums_and_the_like_take_lists(self):
         # A class of the package has an __eq__, so L7 bars generator expressions here.
