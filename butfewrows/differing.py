@@ -2,7 +2,7 @@
 
 from butfewrows.checks import is_below
 from butfewrows.errors import BadNumber
-from butfewrows.pairs import compared, count_rows, further, in_order, shortest_row, turned
+from butfewrows.pairs import compared, count_rows, further, in_order, looped_rows, turned
 
 MOST_LENGTH = 200
 MOST_PLACE = 1000
@@ -55,13 +55,7 @@ def kth_unlike(one, other, k):
 
 def ring(one, other):
     """Rows (head, loop, tail) by which two machines differ at endlessly many rows; None if they do not."""
-    gap = compared(one, other)
-    for pair in gap.moves:
-        loop = loop_at(gap.moves, pair)
-        if loop is not None:
-            head = shortest_row(gap.moves, gap.start, {pair: True})
-            return head, loop, shortest_row(gap.moves, pair, gap.ends)
-    return None
+    return looped_rows(compared(one, other), 1)
 
 
 def at_start(gap):
@@ -115,12 +109,3 @@ def move_at(moves, ways, place):
         place -= ways.get(moves[at][1], 0)
         at += 1
     return moves[at], place
-
-
-def loop_at(moves, pair):
-    """A row of at least one letter that leads from a pair back to it; None if there is none."""
-    for letter, goal in moves[pair]:
-        row = shortest_row(moves, goal, {pair: True})
-        if row is not None:
-            return letter, *row
-    return None

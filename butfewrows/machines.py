@@ -1,6 +1,6 @@
 """Machines, and the rows that they let by."""
 
-from butfewrows.checks import is_below
+from butfewrows.checks import are_below, is_below
 from butfewrows.errors import BadGood, BadRow, BadStand, BadSteps
 
 MOST_STANDS = 8
@@ -45,14 +45,12 @@ def check_steps(steps):
 
 def are_leads(leads, stands):
     """Whether any value tells where the letters lead from one of so many stands."""
-    if not isinstance(leads, tuple) or not 1 <= len(leads) <= MOST_LETTERS:
-        return False
-    return all([is_below(goal, stands) for goal in leads])
+    return are_below(leads, stands) and 1 <= len(leads) <= MOST_LETTERS
 
 
 def check_good(good, stands):
     """Raise BadGood for any value that is no good stands of a machine of so many stands."""
-    if not isinstance(good, tuple) or not all([is_below(stand, stands) for stand in good]):
+    if not are_below(good, stands):
         raise BadGood("no tuple of stands")
     if not all([one < other for one, other in zip(good, good[1:])]):
         raise BadGood("not ascending")

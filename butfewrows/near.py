@@ -2,8 +2,8 @@
 
 from butfewrows.differing import count_unlike
 from butfewrows.machines import Machine, check_stand
-from butfewrows.pairs import Gap, count_rows, moves_of
-from butfewrows.small import numbered, shrunk, small
+from butfewrows.pairs import Gap, count_rows
+from butfewrows.small import merged, numbered, small
 
 
 def apart(machine, one, other):
@@ -34,9 +34,7 @@ def fewest(machine):
 def lean(machine):
     """A machine with the fewest stands that differs from this one at few rows."""
     least = small(machine)
-    kept = keepers(least)
-    merged = Machine(tuple([tuple([kept[goal] for goal in leads]) for leads in least.steps]), least.good)
-    return shrunk(moves_of(merged), merged.good, kept[0])
+    return merged(least, keepers(least))
 
 
 def first_near(machine, stand):

@@ -130,3 +130,22 @@ def shortest_row(moves, start, goals):
                 queue.append(goal)
         at += 1
     return None
+
+
+def loops_at(moves, pair):
+    """Rows of at least one letter that lead from a pair back to it, the shortest for each first letter."""
+    back = [(letter, shortest_row(moves, goal, {pair: True})) for letter, goal in moves[pair]]
+    return [(letter, *row) for letter, row in back if row is not None]
+
+
+def looped_rows(gap, many):
+    """A row to a pair of a gap, so many loops from there, and a row from there to an end; None if none has so many.
+
+    The loops begin with unlike letters, so none is a beginning of another one.
+    """
+    for pair in gap.moves:
+        loops = loops_at(gap.moves, pair)[:many]
+        if len(loops) == many:
+            head = shortest_row(gap.moves, gap.start, {pair: True})
+            return head, *loops, shortest_row(gap.moves, pair, gap.ends)
+    return None

@@ -32,6 +32,13 @@ def is_let_by(how, first, second):
     return first != second
 
 
+def merged(machine, kept):
+    """The small machine of what comes about if all steps to a stand lead to the one that is kept in its place."""
+    moves = {stand: [(letter, kept[goal]) for letter, goal in enumerate(leads)]
+             for stand, leads in enumerate(machine.steps)}
+    return shrunk(moves, machine.good, kept[0])
+
+
 def shrunk(moves, good, start):
     """The machine with the fewest stands that lets by the rows that lead by these moves from start to a good place.
 

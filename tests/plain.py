@@ -52,6 +52,25 @@ def plain_count_to(machine, stand):
     return None if any(found[len(machine):]) else sum(found)
 
 
+def plain_kinds(machine):
+    """For each stand the number of its kind, by counts of the rows at which stands differ."""
+    stands = range(len(machine))
+    firsts = [min(other for other in stands if plain_count(machine, machine, (other, stand)) is not None)
+              for stand in stands]
+    return tuple(sorted(set(firsts)).index(first) for first in firsts)
+
+
+def plainly_first(one, other):
+    """The number of letters of the shortest row at which two machines differ; None if they differ at none."""
+    layer = {(0, 0)}
+    for length in range(len(one) * len(other)):
+        if any((first in one.good) != (second in other.good) for first, second in layer):
+            return length
+        layer = {pair for first, second in layer for pair in zip(one.steps[first], other.steps[second])}
+    # A longer row comes to a pair of stands twice, and differs without the letters between as well.
+    return None
+
+
 def plainly_further(counts, goals):
     """How many rows come to each place by one letter more."""
     then = {}

@@ -7,17 +7,10 @@ from butfewrows.machines import Machine
 from butfewrows.near import apart, fewest, kinds, lean, rows_to
 from butfewrows.small import small
 
-from tests.plain import (chain, every_machine, letting_all, letting_none, plain_count, plain_count_to, some_machine,
-                         some_near_pair, wheel)
+from tests.plain import (chain, every_machine, letting_all, letting_none, plain_count, plain_count_to, plain_kinds,
+                         some_machine, some_near_pair, wheel)
 
 NO_STANDS = (-1, -10 ** 30, 10 ** 30, True, False, "0", "", None, (), (0,), [], [0], {}, {0: 0})
-
-
-def plain_kinds(machine):
-    stands = range(len(machine))
-    firsts = [min(other for other in stands if plain_count(machine, machine, (other, stand)) is not None)
-              for stand in stands]
-    return tuple(sorted(set(firsts)).index(first) for first in firsts)
 
 
 def some_machines(chance, each):
